@@ -1,0 +1,1 @@
+"""What one of many hosts finds out about all of them: idlehosts.host.answers is the way in."""
