@@ -1,6 +1,7 @@
 """The way in: a list of calls on one host goes in, the list of their answers comes out."""
 
-from idlehosts.calls import dt_begin, dt_idle, dt_send, dt_snapshot, dt_state, dt_want, dt_watch
+from idlehosts.calls import (dt_begin, dt_cut, dt_grant, dt_idle, dt_message, dt_output, dt_send, dt_snapshot, dt_state,
+                             dt_suspect, dt_take, dt_told, dt_want, dt_watch)
 from idlehosts.kept import Host
 
 BEGIN = 0
@@ -10,6 +11,13 @@ IDLE = 3
 WATCH = 4
 SNAPSHOT = 5
 WANT = 6
+GRANT = 7
+SUSPECT = 8
+MESSAGE = 9
+OUTPUT = 10
+TAKE = 11
+CUT = 12
+TOLD = 13
 
 
 class UnknownCall(ValueError):
@@ -52,6 +60,20 @@ def answer_one(host, reader):
         return dt_snapshot(host)
     if call == WANT:
         return dt_want(host, reader.take_number())
+    if call == GRANT:
+        return dt_grant(host, reader.take_number())
+    if call == SUSPECT:
+        return dt_suspect(host)
+    if call == MESSAGE:
+        return dt_message(host, reader.take_number(), reader.take_row())
+    if call == OUTPUT:
+        return dt_output(host, reader.take_number())
+    if call == TAKE:
+        return dt_take(host, reader.take_number())
+    if call == CUT:
+        return dt_cut(host, reader.take_number())
+    if call == TOLD:
+        return dt_told(host)
     raise UnknownCall(f"no call has the number {call}")
 
 

@@ -1,6 +1,7 @@
 """What a host keeps, and the moves that its calls are made of."""
 
-from idlehosts.messages import marker_message, token_message, want_message, work_message
+from idlehosts.messages import (MOST_WORKS, grant_message, marker_message, probe_message, record_bytes, record_message,
+                                token_message, want_message, work_message)
 
 MOST_OUTGOING = 512
 GOES_ROUND_AT = 4294967296
@@ -20,6 +21,12 @@ class Recording:
         self.ways = ways
         self.works = []
         self.too_much = False
+
+    def put_work(self, sender, row):
+        if len(self.works) < MOST_WORKS:
+            self.works.append((sender, row))
+        else:
+            self.too_much = True
 
 
 class Host:
@@ -45,7 +52,13 @@ class Host:
         # The records of the last own cut, by host; the recordings, by who wanted the cut.
         self.records = {}
         self.recordings = {}
+        # Of each host, by number: whether this one waits for it, and whether this one owes it.
         self.waits = [False for host in range(n)]
+        self.owes = [False for host in range(n)]
+        self.suspect_number = 0
+        # The number of the last probe that counted, by who; only a greater one counts, so it's the greatest too.
+        self.counted = {}
+        self.locked = False
 
     def is_busy(self):
         return len(self.outgoing) > MOST_OUTGOING
@@ -65,6 +78,15 @@ class Host:
         self.send(to, work_message(row))
         self.balance = (self.balance + 1) % GOES_ROUND_AT
 
+    def work_comes(self, sender, row):
+        self.active = True
+        self.black = True
+        self.balance = (self.balance - 1) % GOES_ROUND_AT
+        self.works.append((sender, row))
+        for recording in self.recordings.values():
+            if recording.ways[sender]:
+                recording.put_work(sender, row)
+
     def become_idle(self):
         self.active = False
         self.pass_token()
@@ -73,6 +95,11 @@ class Host:
         self.watching = True
         self.token = Token(True, 0)
         self.pass_token()
+
+    def token_comes(self, black, total):
+        if self.token is None:
+            self.token = Token(black, total)
+            self.pass_token()
 
     def pass_token(self):
         if self.active or self.token is None:
@@ -104,6 +131,72 @@ class Host:
         self.recordings[who] = Recording(number, list(self.state), ways)
         self.send_to_all(marker_message(who, number))
 
+    def marker_comes(self, sender, who, number):
+        if who in self.recordings:
+            recording = self.recordings[who]
+            if recording.number == number:
+                recording.ways[sender] = False
+                self.end_recording_if_done(who)
+        elif who != self.me:
+            self.begin_recording(who, number, sender)
+            # With two hosts the marker's way was the only one.
+            self.end_recording_if_done(who)
+
+    def end_recording_if_done(self, who):
+        recording = self.recordings[who]
+        if any(recording.ways):
+            return
+        self.recordings.pop(who)
+        record = record_bytes(recording.too_much, recording.state, recording.works)
+        if who == self.me:
+            self.records[who] = record
+        else:
+            self.send(who, record_message(recording.number, record))
+
+    def record_comes(self, sender, number, record):
+        # Ahead of the first own cut a record of number 0 would else be taken for one of it.
+        if self.cut_number > 0 and number == self.cut_number and sender not in self.records:
+            self.records[sender] = record
+
+    def cut_bytes(self):
+        row = []
+        for host in range(self.n):
+            row.extend(self.records[host])
+        return row
+
+    def is_blocked(self):
+        return any(self.waits)
+
     def want(self, who):
         self.waits[who] = True
         self.send(who, want_message())
+
+    def want_comes(self, sender):
+        self.owes[sender] = True
+
+    def grant(self, who):
+        self.owes[who] = False
+        self.send(who, grant_message())
+
+    def grant_comes(self, sender):
+        self.waits[sender] = False
+
+    def suspect(self):
+        self.suspect_number = self.suspect_number + 1
+        self.send_probe(self.me, self.suspect_number)
+
+    def send_probe(self, who, number):
+        for to in range(self.n):
+            if self.waits[to]:
+                self.send(to, probe_message(who, number))
+
+    def probe_comes(self, sender, who, number):
+        if not self.is_blocked() or not self.owes[sender]:
+            return
+        if who in self.counted and self.counted[who] >= number:
+            return
+        self.counted[who] = number
+        if who == self.me:
+            self.locked = True
+        else:
+            self.send_probe(who, number)

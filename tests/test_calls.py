@@ -3,22 +3,9 @@
 import unittest
 
 from idlehosts.calls import dt_begin, dt_idle, dt_send, dt_snapshot, dt_state, dt_want, dt_watch
-from idlehosts.host import answers
-from tests.helper import (IDLE, SNAPSHOT, WATCH, alone, begin, everything, host_with_waiting, listed, new_host, send,
-                          state, want)
-
-SMALLEST = -2147483648
-GREATEST = 2147483647
-
-
-class CallCase(unittest.TestCase):
-    def answered(self, calls, firsts):
-        self.assertEqual(answers(listed(*calls)), alone(*firsts))
-
-    def refused(self, host, call, values, refusal):
-        before = everything(host)
-        self.assertEqual(call(host, *values), [refusal])
-        self.assertEqual(everything(host), before)
+from tests.helper import (GREATEST, IDLE, SMALLEST, SNAPSHOT, SUSPECT, TOLD, WANTED, WATCH, CallCase, begin, cut, each,
+                          everything, grant, host_with_waiting, last, message, new_host, output, send, state, take,
+                          waiting_16, waiting_2, want, work)
 
 
 class Begin(CallCase):
@@ -46,7 +33,8 @@ class Begin(CallCase):
         self.assertEqual(everything(host), {
             "me": 1, "n": 3, "active": True, "state": [], "outgoing": [], "works": [], "balance": 0, "black": False,
             "watching": False, "token": None, "found": False, "cut_number": 0, "records": {}, "recordings": {},
-            "waits": [False, False, False]})
+            "waits": [False, False, False], "owes": [False, False, False], "suspect_number": 0, "counted": {},
+            "locked": False})
 
     def test_in_the_middle_all_is_new(self):
         used = [state([1]), send(1, [2]), want(1), WATCH, SNAPSHOT]
@@ -160,6 +148,11 @@ class Idle(CallCase):
         host.works.append((0, []))
         self.refused(host, dt_idle, (), -3)
 
+    def test_work_that_came_waits_till_it_is_taken(self):
+        self.refused_behind([begin(1, 2, 0), message(0, work())], IDLE, -3)
+        self.refused_behind([begin(1, 2, 0), message(0, work(1)), message(0, work(2)), take()], IDLE, -3)
+        self.assertEqual(last(begin(1, 2, 0), message(0, work(1)), take(), IDLE), [0])
+
     def test_busy_is_more_than_512(self):
         self.assertEqual(dt_idle(host_with_waiting(0, 2, 512)), [0])
         self.refused(host_with_waiting(0, 2, 513), dt_idle, (), -4)
@@ -251,6 +244,53 @@ class Snapshot(CallCase):
         host.cut_number = number
         host.records = {0: [], 1: [], 2: []}
         return host
+
+
+class Busy(CallCase):
+    """More than 512 messages wait to go out: through answers, one call for each that can be refused so."""
+
+    def test_of_16_hosts(self):
+        for call, answer in ((send(15, [1]), [0]), (IDLE, [0]), (WATCH, [0]), (SNAPSHOT, [1]), (SUSPECT, [0]),
+                             (message(3, WANTED), [0])):
+            self.assertEqual(last(*waiting_16(0, 512), TOLD)[5], 512)
+            self.assertEqual(last(*waiting_16(0, 512), call), answer)
+            self.assertEqual(last(*waiting_16(0, 513), TOLD)[5], 513)
+            self.refused_behind(waiting_16(0, 513), call, -4)
+
+    def test_of_2_hosts(self):
+        for call in (want(1), grant(1)):
+            few = waiting_2(0, 512) + [message(1, WANTED)]
+            many = waiting_2(0, 512) + [message(1, WANTED), send(1, [])]
+            self.assertEqual(last(*few, call), [0])
+            self.refused_behind(many, call, -4)
+
+    def test_these_calls_are_not_refused_so(self):
+        many = waiting_2(0, 512) + [message(1, work(7)), send(1, [])]
+        self.assertEqual(each(*many, TOLD, state([1]), take(), cut(), output(), begin(1, 2, 0))[len(many):],
+                         [[0, 1, 0, 0, 0, 513, 1, 0, 0], [0], [1, 1, 7], [-3], [6, 1, 3, 1, 0, 0, 0, 0], [0]])
+
+    def test_one_less_and_it_is_busy_no_more(self):
+        many = waiting_2(0, 513)
+        self.assertEqual(each(*many, want(1), output(), want(1), IDLE)[len(many):],
+                         [[-4], [6, 1, 3, 1, 0, 0, 0, 0], [0], [-4]])
+
+    def test_one_call_may_send_more_than_that(self):
+        self.assertEqual(last(*waiting_16(0, 512), SNAPSHOT, TOLD)[5], 527)
+
+    def test_what_is_told_ahead_of_it(self):
+        many = waiting_16(0, 513)
+        for call, refusal in ((send(0, []), -2), (send(1, [0] * 65), -2), (want(0), -2), (want(1), -3), (grant(16), -2),
+                              (grant(1), -3), (message(0, WANTED), -2), (message(1, [0] * 8193), -2)):
+            self.refused_behind(many, call, refusal)
+        self.refused_behind(waiting_16(1, 513), WATCH, -3)
+        self.refused_behind(waiting_2(0, 513), SUSPECT, -3)
+        self.refused_behind(waiting_2(0, 512) + [SNAPSHOT], SNAPSHOT, -3)
+        self.refused_behind(waiting_16(0, 512) + [WATCH, send(1, [])], WATCH, -3)
+        self.refused_behind(waiting_2(0, 512) + [message(1, work()), send(1, [])], IDLE, -3)
+
+    def test_what_is_told_behind_it(self):
+        self.refused_behind(waiting_16(0, 513), message(1, [0]), -4)
+        self.refused_behind(waiting_16(0, 513), message(1, []), -4)
 
 
 class Recordings(CallCase):
